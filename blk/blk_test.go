@@ -277,8 +277,8 @@ func TestCheckRoom(t *testing.T) {
 		{to(base, most, 1), false, false},
 		{to(base, most-1, 1), false, true},
 		{slices.Concat(to(base, most), to(base, 1)), false, false},
-		{slices.Repeat(to(base, 1), 513), true, true},
-		{slices.Repeat(to(base, 1), 512), false, true},
+		{slices.Concat(slices.Repeat(to(base, 2), 255), to(base, 3)), true, true},
+		{slices.Repeat(to(base, 2), 256), false, true},
 		{slices.Repeat(to(base, 1<<26), 100), false, false},
 	} {
 		s := great(512, false, 0)
@@ -286,6 +286,38 @@ func TestCheckRoom(t *testing.T) {
 		checks(t, fmt.Sprint("a read to ", len(x.l), " parts"), s, 1<<14, x.read)
 		s.In[0].Write = true
 		checks(t, fmt.Sprint("a Write to ", len(x.l), " parts"), s, 1<<14, x.write)
+	}
+}
+
+// BK1: a request is a chain, which has 256 parts at most, also those of no bytes, and whatever the ring's Size is.
+func TestCheckHowManyParts(t *testing.T) {
+	for _, n := range []int{1, 2, 64, 254, 255, 256, 257, 258, 300, 512, 513, 1000, 1 << 16} {
+		none := to(base, make([]int, n-1)...)
+		for i := range 2 {
+			for name, l := range map[string][]ring.Seg{
+				"bytes first":  slices.Concat(waiting().In[i].L[1:], none),
+				"bytes last":   slices.Concat(none, waiting().In[i].L[1:]),
+				"none nowhere": slices.Concat(waiting().In[i].L[1:], slices.Repeat([]ring.Seg{{Write: true}}, n-1)),
+			} {
+				s := waiting()
+				s.In[i].L = l
+				if i == 0 {
+					l[slices.IndexFunc(l, func(p ring.Seg) bool { return p.N > 0 })].N = 1025
+				}
+				checks(t, fmt.Sprint(n, " parts of ", i, ", ", name), s, 8, n <= 256)
+				s.P.Q[0].R.Size = 1
+				checks(t, fmt.Sprint(n, " parts of ", i, ", ", name, ", a small ring"), s, 8, n <= 256)
+			}
+		}
+	}
+	// Bytes in each of them, of one request, and of the last one of eight.
+	for _, n := range []int{255, 256, 257} {
+		s := great(1024, false, 0)
+		s.In[0].L = slices.Concat(to(base, 1025-3*(n-1)), slices.Repeat(to(base, 3), n-1))
+		checks(t, fmt.Sprint("a read to ", n, " parts of bytes"), s, 1, n <= 256)
+		s = many(8)
+		s.In[7].Write, s.In[7].L = true, slices.Repeat(to(base, 4096), n)
+		checks(t, fmt.Sprint("the last one, a Write to ", n, " parts of a page"), s, 8, n <= 256)
 	}
 }
 

@@ -166,7 +166,7 @@ func TestFinishParts(t *testing.T) {
 		slices.Concat(to(dataAt, 200), to(dataAt+100, 313)), // one over the other
 		slices.Concat(to(dataAt, 512), to(dataAt, 1)),       // the status over the first byte
 		to(base+8*page-513, 513),
-		slices.Repeat(to(dataAt, 1), 513),
+		slices.Concat(slices.Repeat(to(dataAt, 2), 255), to(dataAt, 3)), // so many as there may be
 	} {
 		for _, ok := range []bool{true, false} {
 			x := newBench(t, 8)

@@ -7,6 +7,7 @@ import (
 	"slices"
 	"testing"
 
+	"pinnace/api"
 	"pinnace/blk"
 	"pinnace/bus"
 	"pinnace/dma"
@@ -407,20 +408,23 @@ func TestNoTwoFilesBecomeTheSame(t *testing.T) {
 	}
 }
 
-// OL1, OL2: no queue makes a request of more than 256 parts; a machine that was loaded with one has files, of which those
-// that hold it are refused.
-func TestRequestOfTooManyParts(t *testing.T) {
+// OL1 to OL3: a machine whose request has as many parts as it may have has a file of each version, which is taken out.
+func TestRequestOfMostParts(t *testing.T) {
 	w := everyNumber()
-	for range 255 {
+	for n := len(w.s.B.In[0].L); n <= 256; n++ {
+		if n < 4 || n > 253 {
+			x := w.machine(t)
+			if got := len(sectionsOf(t, 2, encoded(t, x, 2))[8].B); got != 5+17+17+8*(n+1) {
+				t.Errorf("the section 9 has %d bytes of %d parts", got, n)
+			}
+			name := fmt.Sprintf("a request of %d parts", n)
+			isTaken(t, name, encoded(t, x, 1), 1, w.first())
+			isTaken(t, name, encoded(t, x, 2), 2, w.second())
+			isTaken(t, name, encoded(t, x, 3), 3, w)
+		}
 		w.s.B.In[0].L = append(w.s.B.In[0].L, ring.Seg{At: base, Write: true})
 	}
-	x := w.machine(t)
-	if n := len(sectionsOf(t, 2, encoded(t, x, 2))[8].B); n != 5+17+17+8*(257+1) {
-		t.Errorf("the section 9 has %d bytes", n)
+	if _, err := soc.Load(w.c, w.s, ram(t, w.m)); errno(err) != api.ErrArg {
+		t.Errorf("a request of 257 parts: Load answers %v", err)
 	}
-	refuses(t, "a request of 257 parts", 2, sectionsOf(t, 2, encoded(t, x, 2)), 3)
-	refuses(t, "a request of 257 parts", 3, sectionsOf(t, 3, encoded(t, x, 3)), 3)
-	isTaken(t, "a request of 257 parts", encoded(t, x, 1), 1, w.first())
-	w.s.B.In[0].L = w.s.B.In[0].L[:256]
-	isTaken(t, "a request of 256 parts", encoded(t, w.machine(t), 2), 2, w.second())
 }

@@ -16,7 +16,6 @@ import (
 	"pinnace/csr"
 	"pinnace/dma"
 	"pinnace/hart"
-	"pinnace/mem"
 	"pinnace/nic"
 	"pinnace/old"
 	"pinnace/plic"
@@ -259,23 +258,5 @@ func TestAllPages(t *testing.T) {
 		if err != nil || !soc.Same(y, w.of(version).machine(t)) {
 			t.Errorf("version %d: Read: %v, or another machine", version, err)
 		}
-	}
-}
-
-// OL1: a request of so many parts, behind so much memory, that the file would have more than 2^27 bytes: tlv.Encode's
-// error.
-func TestFileThatIsTooLong(t *testing.T) {
-	m, err := mem.New(16384)
-	must(t, err)
-	parts := make([]ring.Seg, 1<<23)
-	for i := range parts {
-		parts[i] = ring.Seg{At: base, Write: true}
-	}
-	parts[0].N = 1
-	s := soc.State{B: blk.State{P: virtio.State{Status: 1}, Sectors: 1, Next: 1, In: []blk.Req{{Write: true, N: 512, L: parts}}}}
-	x, err := soc.Load(soc.Config{Pages: 16384, Sectors: 1}, s, m)
-	must(t, err)
-	if b, err := old.Encode(x, 2); len(b) != 0 || errno(err) != api.ErrLong {
-		t.Errorf("Encode: %d bytes, %v, not %v", len(b), err, api.ErrLong)
 	}
 }

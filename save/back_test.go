@@ -468,17 +468,32 @@ func TestNothingElseIsTakenOut(t *testing.T) {
 	}
 }
 
-// SV1, SV3: no queue makes a request of more than 256 parts; the file of a machine that was loaded with one is not taken
-// out.
-func TestRequestOfTooManyParts(t *testing.T) {
-	for _, n := range []int{255, 256, 257, 513} {
+// SV3, SV4: a machine whose requests have as many parts as they may have is taken out again, and answers as it does; with
+// one more part there is no machine to be saved.
+func TestRequestOfMostParts(t *testing.T) {
+	for _, n := range []int{1, 2, 255, 256, 257, 513} {
 		h := withLists()
-		h.s.B.In[1].L = slices.Repeat([]ring.Seg{{At: base, N: 1, Write: true}}, n)
+		for i := range h.s.B.In {
+			h.s.B.In[i].L = slices.Repeat([]ring.Seg{{At: base, N: 4, Write: true}}, n)
+		}
+		h.s.B.In[0].N, h.s.B.In[0].L[n-1].N = 1024, 1025-4*(n-1)
+		if n > 256 {
+			x, err := soc.Load(h.c, h.s, ram(t, 3))
+			if x != nil || errno(err) != api.ErrArg {
+				t.Errorf("%d parts: Load answers %v", n, err)
+			}
+			continue
+		}
 		x := machine(t, h.c, h.s, ram(t, 3))
-		if b := encoded(t, x); n > 256 {
-			isNone(t, fmt.Sprintf("%d parts", n), b, api.ErrForm)
-		} else {
-			isMachine(t, fmt.Sprintf("%d parts", n), b, x)
+		isMachine(t, fmt.Sprintf("%d parts", n), encoded(t, x), x)
+		y, err := save.Decode(encoded(t, x))
+		must(t, err)
+		for _, z := range []*soc.Machine{x, y} {
+			must(t, z.Finish(7, true, bytes.Repeat([]byte{9}, 1024)))
+			must(t, z.Finish(8, true, nil))
+		}
+		if !soc.Same(x, y) || !bytes.Equal(encoded(t, x), encoded(t, y)) {
+			t.Errorf("%d parts: answered, they are other machines", n)
 		}
 	}
 }

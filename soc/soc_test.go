@@ -294,6 +294,9 @@ var oddStates = []struct {
 	{"a Status of the disk that can't be", func(s *soc.State) { s.B.P.Status = 16 }},
 	{"a request behind memory", func(s *soc.State) { s.B.In[0].L[0].At = base + 4*page - 512 }},
 	{"a request behind the disk", func(s *soc.State) { s.B.In[1].Sector = 100 }},
+	{"a request of 257 parts", func(s *soc.State) {
+		s.B.In[1].L = append(s.B.In[1].L, slices.Repeat([]ring.Seg{{At: base, Write: true}}, 256)...)
+	}},
 	{"two requests of an ID", func(s *soc.State) { s.B.In[1].ID = 4 }},
 	{"a disk of more sectors", func(s *soc.State) { s.B.Sectors = 101 }},
 	{"a disk of fewer sectors", func(s *soc.State) { s.B.Sectors = 99 }},
@@ -343,6 +346,21 @@ func TestCheckPages(t *testing.T) {
 	}
 	for sectors, want := range map[uint32]api.Errno{0: api.ErrArg, 99: api.ErrArg, 100: 0, 101: api.ErrArg} {
 		refused(t, fmt.Sprintf("%d sectors", sectors), soc.Check(soc.Config{Pages: 4, Sectors: sectors}, s), want)
+	}
+}
+
+// SO1: a disk's request of 256 parts is a machine's, one of 257 none's.
+func TestLoadParts(t *testing.T) {
+	for _, n := range []int{255, 256, 257} {
+		s := busy()
+		s.B.In[1].L = append(slices.Repeat([]ring.Seg{{At: base, Write: true}}, n-1), s.B.In[1].L...)
+		x, err := soc.Load(laid, s, ram(t, laid.Pages))
+		if n > 256 {
+			isNone(t, fmt.Sprintf("%d parts", n), x, err)
+			continue
+		}
+		must(t, err)
+		isState(t, fmt.Sprintf("%d parts", n), x, s)
 	}
 }
 
